@@ -1,0 +1,1 @@
+"""Coverpapers: greatest covers of words by rising and falling lists, with papers."""
