@@ -6,6 +6,8 @@ import inspect
 import unittest
 from pathlib import Path
 
+from tests.test_errors import NAMES
+
 PACKAGE = Path(__file__).resolve().parent.parent / "coverpapers"
 
 FUNCTIONS = {
@@ -30,17 +32,7 @@ FUNCTIONS = {
 }
 
 CLASSES = {
-    "errors": [
-        "CoverError",
-        "WrongMove",
-        "NotRelated",
-        "Related",
-        "NoCorner",
-        "WrongShape",
-        "OutOfRange",
-        "EmptyWindow",
-        "InvalidText",
-    ],
+    "errors": ["CoverError", *NAMES],
 }
 
 
