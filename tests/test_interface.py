@@ -29,6 +29,26 @@ FUNCTIONS = {
         "corners": ["table"],
         "conjugate": ["shape"],
     },
+    "rows": {
+        "insert_into_row": ["row", "letter"],
+        "insert_by_rows": ["table", "letter"],
+        "take_by_rows": ["table", "cell"],
+    },
+    "columns": {
+        "insert_by_columns": ["table", "letter"],
+        "take_by_columns": ["table", "cell"],
+    },
+    "pairs": {
+        "table_of": ["word"],
+        "table_by_columns": ["word"],
+        "pair_of": ["word"],
+        "word_of": ["table", "record"],
+    },
+    "paths": {
+        "walk": ["word", "path"],
+        "path_to_table": ["word"],
+        "path_between": ["first", "second"],
+    },
 }
 
 CLASSES = {
