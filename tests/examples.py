@@ -62,6 +62,46 @@ def long_words():
         yield [k // 2 if k % 2 == 0 else n - k for k in range(n)]
 
 
+def different_words(source):
+    """Make words of 5 to 12 letters, from few different letters to many."""
+    for n in range(5, 13):
+        for last in (1, 2, 4, 30, BIG):
+            yield [source.randint(-last, last) for _ in range(n)]
+
+
+def greatest_cover(word, count, fits):
+    """Find the greatest cover of so many lists by trying all families; those with the same last letters go on alike."""
+    covers = {(): 0}
+    for letter in word:
+        for lasts, cover in list(covers.items()):
+            longer = [(*lasts[:k], letter, *lasts[k + 1:]) for k, last in enumerate(lasts) if fits(last, letter)]
+            begun = [(*lasts, letter)] if len(lasts) < count else []
+            for after in map(sorted, longer + begun):
+                covers[tuple(after)] = max(cover + 1, covers.get(tuple(after), 0))
+    return max(covers.values())
+
+
+def growths(word, fits):
+    """Find the numbers by which the greatest cover grows with each further list."""
+    covers = [greatest_cover(word, count, fits) for count in range(len(word) + 1)]
+    return tuple(more - less for less, more in zip(covers, covers[1:]) if more > less)
+
+
+def lists_in(*values):
+    """Find each list that stands anywhere in the values."""
+    found = [value for value in values if isinstance(value, list)]
+    for value in values:
+        if isinstance(value, (list, tuple)):
+            found.extend(lists_in(*value))
+    return found
+
+
+def has_its_own_lists(value, *others):
+    """Tell whether no list stands in the value twice, and none of it in one of the others."""
+    own = [id(part) for part in lists_in(value)]
+    return len(set(own)) == len(own) and not set(own) & {id(part) for part in lists_in(*others)}
+
+
 def cells_of(table):
     return {(r, c): letter for r, row in enumerate(table) for c, letter in enumerate(row)}
 

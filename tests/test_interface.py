@@ -49,6 +49,29 @@ FUNCTIONS = {
         "path_to_table": ["word"],
         "path_between": ["first", "second"],
     },
+    "carrying": {
+        "carry_rising": ["word", "move", "family"],
+        "carry_falling": ["word", "move", "family"],
+    },
+    "covers": {
+        "rises": ["word"],
+        "falls": ["word"],
+        "greatest_rising": ["word", "count"],
+        "greatest_falling": ["word", "count"],
+        "rising_paper": ["word", "count"],
+        "falling_paper": ["word", "count"],
+        "longest_rising": ["word"],
+        "longest_falling": ["word"],
+        "part_rising": ["word"],
+        "part_falling": ["word"],
+    },
+    "profiles": {
+        "profile": ["word"],
+    },
+    "parting": {
+        "note": ["first", "second"],
+        "judge_note": ["first", "second", "note"],
+    },
 }
 
 CLASSES = {

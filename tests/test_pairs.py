@@ -7,23 +7,11 @@ from coverpapers.moves import allowed_moves, make_move
 from coverpapers.pairs import pair_of, table_by_columns, table_of, word_of
 from coverpapers.rows import insert_by_rows
 from coverpapers.tables import is_record, is_table, reading_word, shape_of
-from tests.examples import BIG, LARGE_TABLES, SMALL_TABLES, long_words, records, small_words
+from tests.examples import BIG, LARGE_TABLES, SMALL_TABLES, greatest_cover, long_words, records, small_words
+from tests.test_families import may_rise
 from tests.test_tables import ALL_SHAPES
 
 WORDS = [*small_words((-1, 0, 1, 2), 5), *long_words()]
-
-
-def greatest_cover(word, count):
-    """Find the greatest cover of so many rising lists; each is known by its last letter."""
-    lowest = min(word, default=0)
-    covers = {(lowest,) * count: 0}
-    for letter in word:
-        for lasts, cover in list(covers.items()):
-            for k in range(count):
-                if lasts[k] <= letter:
-                    after = tuple(sorted([*lasts[:k], letter, *lasts[k + 1:]]))
-                    covers[after] = max(cover + 1, covers.get(after, 0))
-    return max(covers.values())
 
 
 def number_at(record, number):
@@ -72,7 +60,7 @@ class TableOfTest(unittest.TestCase):
         for word in small_words((0, 1, 2), 5):
             shape = shape_of(table_of(word))
             for count in range(len(word) + 1):
-                self.assertEqual(sum(shape[:count]), greatest_cover(word, count), (word, count))
+                self.assertEqual(sum(shape[:count]), greatest_cover(word, count, may_rise), (word, count))
 
     def test_all_are_tuples(self):
         for word in ([], [4], [2, 3, 1, 2]):
