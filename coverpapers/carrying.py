@@ -1,6 +1,6 @@
 """Carrying families over elementary moves."""
 
-from coverpapers.moves import RIGHT, first_exchanged, make_move
+from coverpapers.moves import LEFT, make_move
 
 
 def carry_rising(word, move, family):
@@ -19,64 +19,62 @@ def carry_falling(word, move, family):
     return _carry(word, move, family)
 
 
-def lead_over(move, family):
-    """Return the family of the word after the move, for an allowed move and a family of either kind."""
-    index, side = move
-    place = first_exchanged(move)
-    holder = _list_with(family, place)
-    if holder is None or place + 1 not in family[holder]:
-        return [[_after_exchange(at, place) for at in indexes] for indexes in family]
-    # The two letters fit into one list only in the order that they lose. The third neighbor lies between them, so it
-    # takes the place of one of them; if another list has it, the two lists go on with one another's ends.
-    other = _list_with(family, index if side == RIGHT else index + 2)
-    after = [list(indexes) for indexes in family]
-    if other is None:
-        after[holder] = _with_third(move, family[holder])
-    else:
-        after[holder], after[other] = _with_ends_exchanged(move, family[holder], family[other])
-    return after
+def lead_along(path, letters, family):
+    """Return the family of the word to which the path leads, for one of either kind of a word of so many letters.
+
+    The moves of the path are allowed. Whether the lists rise or fall does not matter to how they are led along.
+    """
+    holders = _holders(letters, family)
+    for move in path:
+        _lead_over(move, holders)
+    return _family(holders, len(family))
 
 
 def _carry(word, move, family):
-    # Made only for its error: whether letters rise or fall does not matter to how their indexes are led over.
+    # Made only for its error.
     make_move(word, move)
-    return lead_over(move, family)
+    return lead_along([move], len(word), family)
 
 
-def _list_with(family, index):
-    """Return the place of the list that has the index in it, None if no list has it."""
-    for place, indexes in enumerate(family):
-        if index in indexes:
-            return place
-    return None
+def _holders(letters, family):
+    """Return the number of the list that has the letter, for each of so many letters, None where no list has it."""
+    holders = [None] * letters
+    for number, indexes in enumerate(family):
+        for index in indexes:
+            holders[index] = number
+    return holders
 
 
-def _after_exchange(index, place):
-    """Return the index at which a letter stands after the exchange of the letters at `place` and behind it."""
-    if index == place:
-        return place + 1
-    if index == place + 1:
-        return place
-    return index
+def _family(holders, count):
+    """Return the so many lists of the letters that they hold."""
+    family = [[] for _ in range(count)]
+    for index, number in enumerate(holders):
+        if number is not None:
+            family[number].append(index)
+    return family
 
 
-def _with_third(move, holder):
-    """Return the list with the third neighbor in the place of the exchanged one that does not fit beside it."""
+def _lead_over(move, holders):
+    """Change the holders to those of the word after the move."""
     index, side = move
-    head, tail = _around(holder, index)
-    return head + ([index, index + 1] if side == RIGHT else [index + 1, index + 2]) + tail
+    place, third = (index, index + 2) if side == LEFT else (index + 1, index)
+    if holders[place] is None or holders[place] != holders[place + 1]:
+        holders[place], holders[place + 1] = holders[place + 1], holders[place]
+        return
+    # The letters fit into one list only in the order that they lose now. The third neighbor lies between them, and can
+    # take the place of the one that the move leads away from it. If another list has the third neighbor, it gets that
+    # letter for it, and the two lists exchange all that they have on the side of the third neighbor.
+    if holders[third] is not None:
+        start, end = (index + 3, len(holders)) if side == LEFT else (0, index)
+        _exchange(holders, start, end, (holders[place], holders[third]))
+    holders[index], holders[index + 2] = holders[index + 2], holders[index]
 
 
-def _with_ends_exchanged(move, holder, other):
-    """Return the two lists, each with the end of the other one, so that the other one takes one of the letters."""
-    index, side = move
-    head, tail = _around(holder, index)
-    other_head, other_tail = _around(other, index)
-    if side == RIGHT:
-        return (head + [index + 2] + other_tail, other_head + [index, index + 1] + tail)
-    return (head + [index + 1, index + 2] + other_tail, other_head + [index] + tail)
-
-
-def _around(indexes, index):
-    """Return the indexes before the three neighbors from the index on, and those behind them."""
-    return ([at for at in indexes if at < index], [at for at in indexes if at > index + 2])
+def _exchange(holders, start, end, lists):
+    """Exchange the two lists as holders from the start up to the end."""
+    one, other = lists
+    for index in range(start, end):
+        if holders[index] == one:
+            holders[index] = other
+        elif holders[index] == other:
+            holders[index] = one

@@ -1,6 +1,6 @@
 """Greatest covers of a word, and papers that show that more cannot be covered."""
 
-from coverpapers.carrying import lead_over
+from coverpapers.carrying import lead_along
 from coverpapers.errors import OutOfRange
 from coverpapers.pairs import table_of
 from coverpapers.paths import path_to_table
@@ -84,11 +84,12 @@ def _paper(word, rows, columns):
     In the reading word the rows rise, and the columns fall from the bottom up. If together they cover the table, and
     each of the rows meets each of the columns, they are a paper there, which the path leads back to the word.
     """
-    path = path_to_table(word)
+    # Each move undoes itself, so the path back has the same moves from the last to the first.
+    path = path_to_table(word)[::-1]
     lines = _rows_in_reading_word(rises(word))
-    rising = _led_back(path, lines[:rows])
-    falling = _led_back(path, _columns_in_reading_word(lines)[:columns])
-    return (_filled_up(rising, rows), _filled_up(falling, columns))
+    rising = lead_along(path, len(word), _first_lists(lines, rows))
+    falling = lead_along(path, len(word), _first_lists(_columns_in_reading_word(lines), columns))
+    return (rising, falling)
 
 
 def _rows_in_reading_word(shape):
@@ -107,13 +108,6 @@ def _columns_in_reading_word(rows):
     return [[row[place] for row in reversed(rows) if place < len(row)] for place in range(width)]
 
 
-def _led_back(path, family):
-    """Return the family of the word from which the path starts, for one of the word to which it leads."""
-    for move in reversed(path):
-        family = lead_over(move, family)
-    return family
-
-
-def _filled_up(family, count):
-    """Return the family with as many empty lists behind it as make so many lists."""
-    return family + [[] for _ in range(count - len(family))]
+def _first_lists(lists, count):
+    """Return the first so many of the lists, with empty ones behind them if they are too few."""
+    return lists[:count] + [[] for _ in range(count - len(lists))]

@@ -22,16 +22,10 @@ def make_move(word, move):
     if not _is_allowed(word, index, side):
         # The message leaves the index out: Python refuses to write out an integer of thousands of digits.
         raise WrongMove("the move is not allowed on this word")
-    place = first_exchanged(move)
+    place = index if side == LEFT else index + 1
     after = list(word)
     after[place], after[place + 1] = word[place + 1], word[place]
     return after
-
-
-def first_exchanged(move):
-    """Return the index of the first of the two letters that an allowed move exchanges."""
-    index, side = move
-    return index if side == LEFT else index + 1
 
 
 def _is_allowed(word, index, side):

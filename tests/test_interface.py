@@ -6,6 +6,7 @@ import inspect
 import unittest
 from pathlib import Path
 
+from coverpapers.windows import Window
 from tests.test_errors import NAMES
 
 PACKAGE = Path(__file__).resolve().parent.parent / "coverpapers"
@@ -72,16 +73,64 @@ FUNCTIONS = {
         "note": ["first", "second"],
         "judge_note": ["first", "second", "note"],
     },
+    "turning": {
+        "turn": ["word", "*least", "*greatest"],
+        "turn_family": ["word", "family"],
+    },
+    "operators": {
+        "lowered": ["word", "number"],
+        "raised": ["word", "number"],
+        "exchanged": ["word", "number"],
+    },
+    "notation": {
+        "format_word": ["word"],
+        "format_family": ["family"],
+        "format_paper": ["paper"],
+        "parse_word": ["text"],
+        "parse_family": ["text"],
+        "parse_paper": ["text"],
+    },
 }
 
 CLASSES = {
     "errors": ["CoverError", *NAMES],
+    "windows": ["Window"],
+}
+
+METHODS = {
+    "__init__": ["self", "letters=()"],
+    "push_right": ["self", "letter"],
+    "push_left": ["self", "letter"],
+    "pop_right": ["self"],
+    "pop_left": ["self"],
+    "word": ["self"],
+    "table": ["self"],
+    "record": ["self"],
+    "rises": ["self"],
+    "__len__": ["self"],
+    "__iter__": ["self"],
+    "greatest": ["self", "count", "*falling=False"],
+    "paper": ["self", "count", "*falling=False"],
 }
 
 
-def defined_names(module, kind):
+def definitions(module, kind):
     tree = ast.parse((PACKAGE / f"{module}.py").read_text(encoding="ascii"))
-    return [node.name for node in tree.body if isinstance(node, kind)]
+    return [node for node in tree.body if isinstance(node, kind)]
+
+
+def defined_names(module, kind):
+    return [node.name for node in definitions(module, kind)]
+
+
+def written_parameters(function):
+    """List the parameters, each with its default value, and with a star if it is passed by keyword alone."""
+    written = []
+    for parameter in inspect.signature(function).parameters.values():
+        star = "*" if parameter.kind == parameter.KEYWORD_ONLY else ""
+        default = "" if parameter.default == parameter.empty else f"={parameter.default!r}"
+        written.append(f"{star}{parameter.name}{default}")
+    return written
 
 
 class InterfaceTest(unittest.TestCase):
@@ -99,11 +148,14 @@ class InterfaceTest(unittest.TestCase):
         for module, functions in FUNCTIONS.items():
             for name, arguments in functions.items():
                 function = getattr(importlib.import_module(f"coverpapers.{module}"), name)
-                parameters = inspect.signature(function).parameters.values()
-                self.assertEqual([parameter.name for parameter in parameters], arguments, name)
-                for parameter in parameters:
-                    self.assertEqual(parameter.kind, parameter.POSITIONAL_OR_KEYWORD)
-                    self.assertEqual(parameter.default, parameter.empty)
+                self.assertEqual(written_parameters(function), arguments, name)
+
+    def test_the_methods_of_a_window_are_defined_in_its_class(self):
+        window = [node for node in definitions("windows", ast.ClassDef) if node.name == "Window"][0]
+        names = [node.name for node in window.body if isinstance(node, ast.FunctionDef)]
+        for name, arguments in METHODS.items():
+            self.assertIn(name, names)
+            self.assertEqual(written_parameters(getattr(Window, name)), arguments, name)
 
 
 class PackageFolderTest(unittest.TestCase):
