@@ -240,7 +240,6 @@ class InvalidTextTest(unittest.TestCase):
             ("rising 0", 8),
             ("rising 0;", 9),
             ("rising 0; falling", 17),
-            ("rising", 6),
             ("rising ", 7),
             ("rising ;", 8),
             ("rising  ; falling ", 7),

@@ -20,7 +20,6 @@ from coverpapers import (
     rows,
     tables,
     turning,
-    windows,
 )
 from coverpapers import errors as error_classes
 from coverpapers.covers import falling_paper, greatest_falling, greatest_rising, rising_paper
@@ -48,7 +47,7 @@ from tests.test_interface import FUNCTIONS
 WORD = [2, 3, 1, 2]
 TABLE = ((1, 2), (2, 3))
 
-# For each function of the interface: its arguments, once so that it returns something and perhaps once with a list.
+# Each function of the interface but turn, which takes its bounds by keyword, with arguments for it.
 CALLS = [
     (families.is_rising_family, (WORD, [[0, 1], [], [2, 3]])),
     (families.is_falling_family, (WORD, [[0, 2], [1, 3], []])),
@@ -187,8 +186,7 @@ class PathsAndNotesTest(unittest.TestCase):
         for word in long_words():
             shuffled = list(word)
             source.shuffle(shuffled)
-            table, record = pairs.pair_of(word)
-            for other in (word, word[::-1], shuffled, tables.reading_word(table)):
+            for other in (word, word[::-1], shuffled, tables.reading_word(table_of(word))):
                 self.check(word, other)
                 self.check(other, word)
 
